@@ -1,6 +1,11 @@
 package impl
 
-import "math"
+import (
+	"cmp"
+	"math"
+	"math/bits"
+	"strconv"
+)
 
 const (
 	KNil     = 0
@@ -1006,4 +1011,259 @@ func (c unitCheck) unmadeFault(f int) int {
 		return 0
 	}
 	return noNode
+}
+
+// What can be done with values. Each one that comes here is a literal's or an operation's and so a valid one.
+
+func boolValue(b bool) Value {
+	if b {
+		return Value{Kind: KBool, Num: 1}
+	}
+	return Value{Kind: KBool}
+}
+
+func intValue(n int64) Value { return Value{Kind: KInt, Num: n} }
+
+func fltValue(f float64) Value { return Value{Kind: KFlt, Flt: f} }
+
+func strValue(s string) Value { return Value{Kind: KStr, Str: s} }
+
+func builtinValue(number int) Value { return Value{Kind: KBuiltin, Num: int64(number)} }
+
+func gives(v Value) Valued { return Valued{Value: v} }
+
+func fails(code int) Valued { return Valued{Code: code} }
+
+func isNumber(v Value) bool {
+	return v.Kind == KInt || v.Kind == KFlt
+}
+
+func isNaN(v Value) bool {
+	return v.Kind == KFlt && math.IsNaN(v.Flt)
+}
+
+func truth(v Value) bool {
+	return v.Kind != KNil && v != boolValue(false)
+}
+
+func same(a, b Value) bool {
+	if isNumber(a) && isNumber(b) {
+		return compare(a, b) == 0
+	}
+	return a == b
+}
+
+// What compare answers where neither of two values comes first.
+const (
+	besideNaN = 2
+	noOrder   = 3
+)
+
+func compare(a, b Value) int {
+	switch {
+	case a.Kind == KStr && b.Kind == KStr:
+		return cmp.Compare(a.Str, b.Str)
+	case !isNumber(a) || !isNumber(b):
+		return noOrder
+	case isNaN(a) || isNaN(b):
+		return besideNaN
+	case a.Kind == KInt && b.Kind == KInt:
+		return cmp.Compare(a.Num, b.Num)
+	case a.Kind == KInt:
+		return compareMixed(a.Num, b.Flt)
+	case b.Kind == KInt:
+		return -compareMixed(b.Num, a.Flt)
+	}
+	return cmp.Compare(a.Flt, b.Flt)
+}
+
+// compareMixed makes the float an int, which is exact for its whole part; an int made a float may be rounded.
+func compareMixed(n int64, f float64) int {
+	const beyond = 1 << 63
+	if f >= beyond {
+		return -1
+	}
+	if f < -beyond {
+		return 1
+	}
+	whole := math.Floor(f)
+	if order := cmp.Compare(n, int64(whole)); order != 0 {
+		return order
+	}
+	return cmp.Compare(whole, f)
+}
+
+func binary(op int, a, b Value) Valued {
+	switch op {
+	case OpJoin:
+		return join(a, b)
+	case OpEq:
+		return gives(boolValue(same(a, b)))
+	case OpNe:
+		return gives(boolValue(!same(a, b)))
+	case OpLt, OpLe, OpGt, OpGe:
+		return inOrder(op, compare(a, b))
+	}
+	if !isNumber(a) || !isNumber(b) {
+		return fails(ErrType)
+	}
+	if a.Kind == KInt && b.Kind == KInt && op != OpDiv {
+		return binaryOfInts(op, a.Num, b.Num)
+	}
+	return binaryOfFloats(op, asFloat(a), asFloat(b))
+}
+
+func inOrder(op, order int) Valued {
+	if order == noOrder {
+		return fails(ErrType)
+	}
+	holds := false
+	switch op {
+	case OpLt:
+		holds = order == -1
+	case OpLe:
+		holds = order == -1 || order == 0
+	case OpGt:
+		holds = order == 1
+	case OpGe:
+		holds = order == 1 || order == 0
+	}
+	return gives(boolValue(holds))
+}
+
+func binaryOfInts(op int, a, b int64) Valued {
+	switch op {
+	case OpAdd:
+		return gives(intValue(a + b))
+	case OpSub:
+		return gives(intValue(a - b))
+	case OpMul:
+		return gives(intValue(a * b))
+	case OpIDiv, OpMod:
+		return divide(op, a, b)
+	case OpAnd:
+		return gives(intValue(a & b))
+	case OpOr:
+		return gives(intValue(a | b))
+	case OpXor:
+		return gives(intValue(a ^ b))
+	case OpShl, OpShr:
+		return shift(op, a, b)
+	}
+	return fails(ErrType)
+}
+
+func divide(op int, a, b int64) Valued {
+	if b == 0 {
+		return fails(ErrZero)
+	}
+	quotient := a / b
+	// The language of this program cuts towards 0, Heddle goes down.
+	if a%b != 0 && (a < 0) != (b < 0) {
+		quotient--
+	}
+	if op == OpMod {
+		return gives(intValue(a - b*quotient))
+	}
+	return gives(intValue(quotient))
+}
+
+func shift(op int, a, b int64) Valued {
+	if b < 0 {
+		return fails(ErrRange)
+	}
+	if op == OpShl {
+		return gives(intValue(a << b))
+	}
+	// Unsigned, so that zeros come in and not the sign.
+	return gives(intValue(int64(uint64(a) >> b)))
+}
+
+func asFloat(v Value) float64 {
+	if v.Kind == KInt {
+		return float64(v.Num)
+	}
+	return v.Flt
+}
+
+// binaryOfFloats converts after each step, which bars a machine from doing two of them with one rounding.
+func binaryOfFloats(op int, a, b float64) Valued {
+	switch op {
+	case OpAdd:
+		return gives(fltValue(float64(a + b)))
+	case OpSub:
+		return gives(fltValue(float64(a - b)))
+	case OpMul:
+		return gives(fltValue(float64(a * b)))
+	case OpDiv:
+		return gives(fltValue(float64(a / b)))
+	case OpIDiv:
+		return gives(fltValue(math.Floor(a / b)))
+	case OpMod:
+		taken := float64(math.Floor(a/b) * b)
+		return gives(fltValue(float64(a - taken)))
+	}
+	return fails(ErrType)
+}
+
+func join(a, b Value) Valued {
+	if !isJoined(a) || !isJoined(b) {
+		return fails(ErrType)
+	}
+	both := textOf(a) + textOf(b)
+	if len(both) > MaxStr {
+		return fails(ErrLong)
+	}
+	return gives(strValue(both))
+}
+
+func isJoined(v Value) bool {
+	return v.Kind == KStr || isNumber(v)
+}
+
+// textOf has the texts of what can be joined.
+func textOf(v Value) string {
+	switch v.Kind {
+	case KStr:
+		return v.Str
+	case KInt:
+		return strconv.FormatInt(v.Num, 10)
+	}
+	return floatText(v.Flt)
+}
+
+func floatText(f float64) string {
+	switch {
+	case math.IsNaN(f):
+		return "nan"
+	case math.IsInf(f, 1):
+		return "inf"
+	case math.IsInf(f, -1):
+		return "-inf"
+	case f == 0 && math.Signbit(f):
+		return "-0p0"
+	case f == 0:
+		return "0p0"
+	}
+	// A float has 53 bits, so that its fraction times 2 to the 53 is a whole number.
+	fraction, exponent := math.Frexp(f)
+	whole := int64(math.Ldexp(fraction, 53))
+	zeros := bits.TrailingZeros64(uint64(whole))
+	return strconv.FormatInt(whole>>zeros, 10) + "p" + strconv.Itoa(exponent-53+zeros)
+}
+
+func unary(op int, v Value) Valued {
+	switch {
+	case op == OpNeg && v.Kind == KInt:
+		return gives(intValue(-v.Num))
+	case op == OpNeg && v.Kind == KFlt:
+		return gives(fltValue(-v.Flt))
+	case op == OpFlip && v.Kind == KInt:
+		return gives(intValue(^v.Num))
+	case op == OpNot:
+		return gives(boolValue(!truth(v)))
+	case op == OpLen && v.Kind == KStr:
+		return gives(intValue(int64(len(v.Str))))
+	}
+	return fails(ErrType)
 }
