@@ -257,9 +257,8 @@ func sameInts(a, b []int) bool {
 	return len(a) == len(b) && (len(a) == 0 || reflect.DeepEqual(a, b))
 }
 
-// Units of nothing but odd numbers: an answer is all that is asked, and that it is the model's.
-func TestCheckUnitAnswersAtEveryArgument(t *testing.T) {
-	r := rand.New(rand.NewSource(2))
+// oddUnit is a unit of nothing but odd numbers.
+func oddUnit(r *rand.Rand) impl.Unit {
 	ints := func() []int {
 		var list []int
 		for range r.Intn(4) {
@@ -267,18 +266,25 @@ func TestCheckUnitAnswersAtEveryArgument(t *testing.T) {
 		}
 		return list
 	}
-	for round := range 20000 {
-		var u impl.Unit
-		for range r.Intn(4) {
-			fn := impl.Fn{Params: r.Intn(2), Vars: names(r.Intn(3)), Rest: r.Intn(2) == 0}
-			for range r.Intn(6) {
-				fn.Nodes = append(fn.Nodes, impl.Node{Kind: r.Intn(44) - 2, Line: r.Intn(2), Op: someInt(r, 22) * r.Intn(2), Num: int64(someInt(r, 3) * r.Intn(2)), Refs: ints(), Kids: ints()})
-			}
-			for range r.Intn(3) {
-				fn.Ups = append(fn.Ups, impl.Up{Local: r.Intn(2) == 0, Index: someInt(r, 3)})
-			}
-			u.Fns = append(u.Fns, fn)
+	var u impl.Unit
+	for range r.Intn(4) {
+		fn := impl.Fn{Params: r.Intn(2), Vars: names(r.Intn(3)), Rest: r.Intn(2) == 0}
+		for range r.Intn(6) {
+			fn.Nodes = append(fn.Nodes, impl.Node{Kind: r.Intn(44) - 2, Line: r.Intn(2), Op: someInt(r, 22) * r.Intn(2), Num: int64(someInt(r, 3) * r.Intn(2)), Refs: ints(), Kids: ints()})
 		}
+		for range r.Intn(3) {
+			fn.Ups = append(fn.Ups, impl.Up{Local: r.Intn(2) == 0, Index: someInt(r, 3)})
+		}
+		u.Fns = append(u.Fns, fn)
+	}
+	return u
+}
+
+// Units of nothing but odd numbers: an answer is all that is asked, and that it is the model's.
+func TestCheckUnitAnswersAtEveryArgument(t *testing.T) {
+	r := rand.New(rand.NewSource(2))
+	for round := range 20000 {
+		u := oddUnit(r)
 		if got, expect := impl.CheckUnit(u), modelCheck(u); got != expect {
 			t.Fatalf("round %d: %v, want %v, of %+v", round, got, expect, u)
 		}

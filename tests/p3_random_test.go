@@ -194,6 +194,31 @@ func scribble[T comparable](t *testing.T, all [][]T, mark func(i int) T) {
 	}
 }
 
+// scribbleAll writes all over a unit, and asks whether no two of its lists share memory.
+func scribbleAll(t *testing.T, u impl.Unit) {
+	t.Helper()
+	ints, texts, ups, nodes := lists(u)
+	scribble(t, ints, func(i int) int { return 1000000 + i })
+	scribble(t, texts, func(i int) string { return fmt.Sprint("text ", i) })
+	scribble(t, ups, func(i int) impl.Up { return impl.Up{Index: 1000000 + i} })
+	for i, list := range nodes {
+		for j := range list {
+			list[j] = impl.Node{Line: 1000000 + i}
+		}
+	}
+	for i, list := range nodes {
+		for j := range list {
+			if list[j].Line != 1000000+i {
+				t.Fatal("two fns share nodes")
+			}
+		}
+	}
+	fns := u.Fns[:cap(u.Fns)]
+	for f := range fns {
+		fns[f] = impl.Fn{Line: -1}
+	}
+}
+
 // An answer shares no memory with its argument or another answer, and no two of its lists share any.
 func TestUnitsAreNewMemory(t *testing.T) {
 	r := rand.New(rand.NewSource(35))
@@ -202,22 +227,7 @@ func TestUnitsAreNewMemory(t *testing.T) {
 		kept := copyTree(tree)
 		first, second := impl.Bind(tree), impl.Bind(tree)
 		copied := copyUnit(second.Unit)
-		ints, texts, ups, nodes := lists(first.Unit)
-		scribble(t, ints, func(i int) int { return 1000000 + i })
-		scribble(t, texts, func(i int) string { return fmt.Sprint("text ", i) })
-		scribble(t, ups, func(i int) impl.Up { return impl.Up{Index: 1000000 + i} })
-		for i, list := range nodes {
-			for j := range list {
-				list[j] = impl.Node{Line: 1000000 + i}
-			}
-		}
-		for i, list := range nodes {
-			for j := range list {
-				if list[j].Line != 1000000+i {
-					t.Fatal("two fns share nodes")
-				}
-			}
-		}
+		scribbleAll(t, first.Unit)
 		closed := impl.Closed(tree)
 		closed = closed[:cap(closed)]
 		for i := range closed {
