@@ -6,10 +6,11 @@ import (
 	"loop.example/reed/impl"
 )
 
-// twig is a part with what stands below it, before it has a place.
+// twig is a part with what stands below it, before it has a place. notes are those that Advice should have for it; their Part is not known yet.
 type twig struct {
-	part impl.Part
-	kids []twig
+	part  impl.Part
+	kids  []twig
+	notes []impl.Note
 }
 
 // lay puts a twig down as a tree, each part behind those below it.
@@ -38,9 +39,11 @@ func (t twig) size() int {
 }
 
 // state makes a statement, say an expression or an entry.
-func state(kind int, kids ...twig) twig { return twig{impl.Part{Kind: kind, Line: 1}, kids} }
+func state(kind int, kids ...twig) twig {
+	return twig{part: impl.Part{Kind: kind, Line: 1}, kids: kids}
+}
 
-func say(kind int, kids ...twig) twig { return twig{impl.Part{Kind: kind}, kids} }
+func say(kind int, kids ...twig) twig { return twig{part: impl.Part{Kind: kind}, kids: kids} }
 
 func (t twig) named(names ...string) twig {
 	t.part.Names = names
